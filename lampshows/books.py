@@ -1,5 +1,6 @@
 """Books of shows for a table."""
 
+from lampshows.columns import columns_of
 from lampshows.faults import NO_STEP, NOT_KNOWN, NOT_NEW, TextFault, WRONG_WORD
 from lampshows.lines import read_line, spelled
 
@@ -8,21 +9,24 @@ MOST_STEPS = 16
 MOST_STEP_TICKS = 65535
 
 
+# Lamps by place, and once more as columns: rows are asked for far more often than books are read.
 class Step:
     def __init__(self, ticks, lamps):
         self.ticks = ticks
         self.lamps = lamps
+        self.columns = columns_of(lamps)
 
 
 class Show:
     def __init__(self, name, lamps, loops):
         self.name = name
         self.lamps = lamps
+        self.columns = columns_of(lamps)
         self.loops = loops
         self.steps = []
 
 
-# The lamps of the table go along with its shows: what is lit is asked of them all.
+# The lamps of the table go along with its shows: orders may switch any of them.
 class Book:
     def __init__(self, lamps, shows):
         self.lamps = lamps

@@ -20,7 +20,11 @@ class TextFault(Exception):
 
 
 # One error for each refusal of a call.
-class TooLong(Exception):
+class NotRight(Exception):
+    pass
+
+
+class TooMuch(Exception):
     pass
 
 

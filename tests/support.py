@@ -45,8 +45,21 @@ BOOK = (
     "step 4 a b c d\n"
 )
 
+
+# The smallest table that has lamps at these places, each named by its place.
+def table_with_lamps(places):
+    return SMALLEST.replace("coil", "".join(f"lamp l{place} at {place}\n" for place in places) + "coil", 1)
+
+
+ALL_LAMPS = table_with_lamps(range(64))
+
 # A mark that stands in no sample: where a test's text has it, a fault is told.
 MARK = "|"
+
+
+LIT = [5]
+BASE = [8]
+TICK = [9]
 
 
 def spell(text):
@@ -79,17 +92,41 @@ def begin(table, book):
     return [4] + row(table) + row(book)
 
 
-LIT = [5]
-BASE = [8]
-TICK = [9]
-
-
-def ticks(count, orders):
-    return [6, count, len(orders)] + orders
+def ticks(count, orders=()):
+    return [6, count, len(orders)] + list(orders)
 
 
 def level(number):
     return [7, number]
+
+
+# All that can be asked of how lamps stand: lit, level of each, base, tick.
+STANDING = [LIT] + [level(number) for number in range(16)] + [BASE, TICK]
+
+
+# Orders, each in the tick that is told first.
+def start(tick, on, show):
+    return [tick, 0, on, show]
+
+
+def stop(tick, on):
+    return [tick, 1, on, 0]
+
+
+def switch_on(tick, place):
+    return [tick, 2, 0, place]
+
+
+def switch_off(tick, place):
+    return [tick, 3, 0, place]
+
+
+def all_off(tick):
+    return [tick, 4, 0, 0]
+
+
+def stop_all(tick):
+    return [tick, 5, 0, 0]
 
 
 def split(answered):
@@ -110,6 +147,12 @@ def ask(*calls):
     parts = split(answers(numbers))
     assert len(parts) == len(calls), "not one answer for each call"
     return parts
+
+
+def ask_begun(table, book, *calls):
+    parts = ask(begin(table, book), *calls)
+    assert parts[0] == [0], "not begun"
+    return parts[1:]
 
 
 def ask_one(call):

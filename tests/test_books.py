@@ -2,7 +2,7 @@
 
 import unittest
 
-from support import BOOK, SMALLEST, TABLE, ask, ask_one, begin, find, judge, shows, unmark
+from support import ALL_LAMPS, BOOK, SMALLEST, TABLE, ask, ask_one, begin, find, judge, shows, unmark
 
 SHOW = "show x on a b d\n"
 
@@ -71,10 +71,8 @@ class RightBooks(BookCase):
         self.right("".join(f"show x{k} on a\nstep 1\n" for k in range(32)))
 
     def test_all_lamps(self):
-        lamps = "".join(f"lamp l{k} at {k}\n" for k in range(64))
-        table = SMALLEST.replace("coil", lamps + "coil", 1)
         names = " ".join(f"l{k}" for k in range(64))
-        self.right(f"show x on {names} loop\nstep 1 {names}\n", table)
+        self.right(f"show x on {names} loop\nstep 1 {names}\n", ALL_LAMPS)
 
 
 class FaultsOfWholeTexts(BookCase):

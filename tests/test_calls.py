@@ -1,4 +1,4 @@
-"""D5, the order of refusals, begin and lit, and the list that is handed in and given back."""
+"""D5 of the calls on texts, the order of refusals, begin and lit, and the list that is handed in and given back."""
 
 import unittest
 

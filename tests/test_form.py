@@ -22,6 +22,7 @@ NO_WORDS = re.compile(
     r"\b(type|typing|typing_extensions|enum|Enum|IntEnum|StrEnum|Flag|IntFlag|Generic|Protocol|ABC|ABCMeta|namedtuple"
     r"|NamedTuple|TypedDict|TYPE_CHECKING|abstractmethod)\b|dataclass|overload|contextmanager"
 )
+CHANGES = "append clear extend insert pop remove reverse setdefault update".split()
 VALUE_NAMES = "count index title find get join lower upper split strip copy add".split()
 TWO_UNDERSCORES = ["__init__", "__eq__", "__repr__", "__str__", "__len__"]
 
@@ -127,6 +128,17 @@ class Form(unittest.TestCase):
         for path, node in nodes(ast.Expr):
             if not isinstance(node.value, ast.Call):
                 self.assertIn(ast.dump(node, include_attributes=True), docs)
+
+    def test_what_is_walked_is_not_changed(self):
+        for path, loop in nodes(ast.For):
+            walked = loop.iter.args if isinstance(loop.iter, ast.Call) else [loop.iter]
+            walked = [ast.unparse(part) for part in walked]
+            for node in ast.walk(ast.Module(loop.body, [])):
+                if isinstance(node, (ast.Subscript, ast.Attribute, ast.Name)) and isinstance(node.ctx, ast.Store):
+                    kept = node.value if isinstance(node, ast.Subscript) else node
+                    self.assertNotIn(ast.unparse(kept), walked, (path.name, node.lineno))
+                elif isinstance(node, ast.Call) and isinstance(node.func, ast.Attribute) and node.func.attr in CHANGES:
+                    self.assertNotIn(ast.unparse(node.func.value), walked, (path.name, node.lineno))
 
     def test_expressions(self):
         self.none_of([(p, n) for p, n in nodes(ast.expr) if not isinstance(n, EXPRESSIONS)])
